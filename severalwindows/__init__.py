@@ -1,0 +1,1 @@
+"""Several windows: one line of persons before several windows; see severalwindows.office."""
