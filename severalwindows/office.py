@@ -1,6 +1,8 @@
 """The calls on one office, one behind another, and what they answer."""
 
-from severalwindows.serving import Person, is_at_window, is_in_line, is_there, serve
+from severalwindows.serving import Person, come_sooner, fewest_windows, first_minute, free_at_last, is_at_window
+from severalwindows.serving import is_in_line, is_there, last_done, left_out, most_at_once, opened_sooner, saving
+from severalwindows.serving import serve, served_faster, wait_of_all
 
 NO_SUCH = -2
 NOBODY = -6
@@ -18,7 +20,6 @@ LAST_ASKED = 2000
 START = 0
 
 # By a call's number, how many whole numbers it takes. Start is none of these: its row tells its own length.
-# Calls that aren't answered yet stand here too, since before a start they are refused like all others.
 SIZES = (0, 2, 1, 1, 1, 0, 0, 0, 1, 1, 2, 1, 1, 1, 2, 2, 2, 1, 1, 0, 1, 0, 0)
 
 
@@ -47,13 +48,6 @@ def answer_start(office, openings):
     return [len(openings)]
 
 
-def first_minute(persons):
-    """The minute before which nobody more can come."""
-    if len(persons) == 0:
-        return 0
-    return persons[-1].comes
-
-
 def answer_come(office, numbers):
     minute = numbers[0]
     minutes = numbers[1]
@@ -74,6 +68,16 @@ def answer_leave(office, numbers):
     return [waits]
 
 
+def answer_open(office, numbers):
+    minute = numbers[0]
+    if minute > LAST_MINUTE:
+        return [NOT_ALLOWED]
+    if len(office.openings) >= MOST_WINDOWS:
+        return [FULL]
+    office.openings.append(minute)
+    return [len(office.openings) - 1]
+
+
 def answer_times(office, numbers):
     who = numbers[0]
     if who >= len(office.persons):
@@ -90,7 +94,7 @@ def answer_wait(office, numbers):
 
 
 def answer_sum(office, numbers):
-    return [sum([visit.waits for visit in office.visits()])]
+    return [wait_of_all(office.visits())]
 
 
 def answer_longest(office, numbers):
@@ -102,7 +106,7 @@ def answer_longest(office, numbers):
 
 
 def answer_over(office, numbers):
-    return [max([visit.done for visit in office.visits()], default=0)]
+    return [last_done(office.visits())]
 
 
 def answer_present(office, numbers):
@@ -147,6 +151,79 @@ def answer_of(office, numbers):
     return counted(who_go_to(office, window))
 
 
+def answer_free(office, numbers):
+    return counted(free_at_last(office.openings, office.visits()))
+
+
+def compared(office, others):
+    """What would be saved if all went as these others do; then how long all would wait, when the last would be done."""
+    return [saving(office.visits(), others), wait_of_all(others), last_done(others)]
+
+
+def answer_more(office, numbers):
+    minute = numbers[0]
+    if minute > LAST_MINUTE:
+        return [NOT_ALLOWED]
+    # a sixth window may be supposed: only one that would be there for good is refused as too many
+    return compared(office, serve(office.openings + [minute], office.persons))
+
+
+def answer_without(office, numbers):
+    who = numbers[0]
+    if who >= len(office.persons):
+        return [NO_SUCH]
+    return compared(office, serve(office.openings, left_out(office.persons, who)))
+
+
+def answer_faster(office, numbers):
+    who = numbers[0]
+    if who >= len(office.persons):
+        return [NO_SUCH]
+    return compared(office, serve(office.openings, served_faster(office.persons, who, numbers[1])))
+
+
+def answer_sooner(office, numbers):
+    who = numbers[0]
+    if who >= len(office.persons):
+        return [NO_SUCH]
+    visits = serve(office.openings, come_sooner(office.persons, who, numbers[1]))
+    return [visits[who].comes, wait_of_all(visits), last_done(visits)]
+
+
+def visits_earlier(office, window, minutes):
+    return serve(opened_sooner(office.openings, window, minutes), office.persons)
+
+
+def answer_earlier(office, numbers):
+    window = numbers[0]
+    if window >= len(office.openings):
+        return [NO_SUCH]
+    return compared(office, visits_earlier(office, window, numbers[1]))
+
+
+def answer_best(office, numbers):
+    visits = office.visits()
+    minutes = numbers[0]
+    count = len(office.openings)
+    savings = [saving(visits, visits_earlier(office, window, minutes)) for window in range(count)]
+    most = max(savings)
+    return [savings.index(most), most]
+
+
+def answer_fewest(office, numbers):
+    if len(office.persons) == 0:
+        return [NONE_FOUND]
+    return [fewest_windows(office.persons, numbers[0])]
+
+
+def answer_crowd(office, numbers):
+    return [most_at_once(office.persons)]
+
+
+def answer_state(office, numbers):
+    return [len(office.persons)] + office.openings
+
+
 ANSWERERS = {
     0: answer_start,
     1: answer_come,
@@ -160,6 +237,17 @@ ANSWERERS = {
     9: answer_line,
     10: answer_at,
     11: answer_of,
+    12: answer_more,
+    13: answer_without,
+    14: answer_faster,
+    15: answer_sooner,
+    16: answer_earlier,
+    17: answer_best,
+    18: answer_fewest,
+    19: answer_crowd,
+    20: answer_open,
+    21: answer_free,
+    22: answer_state,
 }
 
 

@@ -34,9 +34,46 @@ WORDS = """
 
 UNUSED = "register mro elements open input version_info with_traceback add_note format format_map".split()
 
+UNUSED_NAMES = """
+    attrgetter breakpoint builtins compile copyright credits delattr dir eval exec exit gc getattr globals hasattr help
+    id importlib license locals methodcaller os quit setattr super type vars sys
+""".split()
+
+CHANGES = "append clear extend insert pop remove reverse setdefault update".split()
+WALKED = "zip enumerate reversed range items keys values".split()
+WALKERS = "list tuple dict sorted sum any all enumerate zip min max".split()
+
 
 def sources():
     return [(path.name, path.read_text(encoding="utf-8")) for path in sorted(PACKAGE.glob("*.py"))]
+
+
+def trees():
+    return [(name, ast.parse(text)) for name, text in sources()]
+
+
+def called(node):
+    """The name by which a call calls, be it a function's or a method's."""
+    return getattr(node.func, "id", getattr(node.func, "attr", None))
+
+
+def bound_at_the_top(tree):
+    found = []
+    for node in tree.body:
+        if isinstance(node, (ast.FunctionDef, ast.ClassDef)):
+            found.append(node.name)
+        if isinstance(node, ast.ImportFrom):
+            found.extend(alias.asname or alias.name for alias in node.names)
+        if isinstance(node, ast.Assign):
+            found.append(node.targets[0].id)
+    return found
+
+
+def bound_within(function):
+    """Parameters and locals."""
+    inside = list(ast.walk(function))
+    stored = [node.id for node in inside if isinstance(node, ast.Name) and isinstance(node.ctx, ast.Store)]
+    return stored + [node.arg for node in inside if isinstance(node, ast.arg)]
 
 
 def nodes():
@@ -98,6 +135,102 @@ class Form(unittest.TestCase):
                 self.assertNotIn(node.attr, UNUSED, name)
             if isinstance(node, ast.Call) and isinstance(node.func, ast.Attribute):
                 self.assertIn(node.func.attr, METHODS + own, name)
+
+    def test_names_are_plain_words(self):
+        for name, node in nodes():
+            words = [getattr(node, field, None) for field in ("id", "arg", "attr", "name")]
+            for word in [word for word in words if isinstance(word, str) and word != "__init__"]:
+                self.assertRegex(word, r"^[A-Za-z][A-Za-z0-9_]*$", name)
+                self.assertNotIn(word, UNUSED, name)
+            if isinstance(node, ast.Name):
+                self.assertNotIn(node.id, UNUSED_NAMES, name)
+
+    def test_each_name_once_at_the_top(self):
+        for name, tree in trees():
+            found = bound_at_the_top(tree)
+            self.assertEqual(sorted(found), sorted(set(found)), name)
+            for node in tree.body:
+                kinds = (ast.Expr, ast.ImportFrom, ast.FunctionDef, ast.ClassDef, ast.Assign)
+                self.assertIsInstance(node, kinds, (name, node.lineno))
+
+    def test_locals_are_called_like_nothing_else(self):
+        for name, tree in trees():
+            top = bound_at_the_top(tree)
+            for node in ast.walk(tree):
+                if isinstance(node, ast.FunctionDef):
+                    for word in bound_within(node):
+                        self.assertNotIn(word, top, (name, node.name))
+                        self.assertFalse(hasattr(builtins, word), (name, node.name, word))
+
+    def test_what_stands_at_the_top_is_not_changed(self):
+        for name, tree in trees():
+            top = bound_at_the_top(tree)
+            for node in ast.walk(tree):
+                if isinstance(node, ast.Call) and isinstance(node.func, ast.Attribute):
+                    if called(node) in CHANGES:
+                        self.assertNotIn(getattr(node.func.value, "id", None), top, (name, node.lineno))
+                if isinstance(node, ast.Subscript) and isinstance(node.ctx, ast.Store):
+                    self.assertNotIn(getattr(node.value, "id", None), top, (name, node.lineno))
+
+    def test_imports_are_defined_where_they_come_from_and_go_one_way(self):
+        draws = {}
+        found = {name: tree for name, tree in trees()}
+        for name, tree in found.items():
+            draws[name] = set()
+            for node in tree.body:
+                if isinstance(node, ast.ImportFrom):
+                    source = node.module.split(".")[1] + ".py"
+                    draws[name].add(source)
+                    own = [part.name for part in found[source].body if hasattr(part, "name")]
+                    for alias in node.names:
+                        self.assertIn(alias.name, own, name)
+        while draws:
+            ends = [name for name in draws if not draws[name] & set(draws)]
+            self.assertNotEqual(ends, [], draws)
+            for name in ends:
+                draws.pop(name)
+
+    def test_no_name_is_a_method_here_and_a_value_there(self):
+        methods = set()
+        values = set()
+        for name, node in nodes():
+            if isinstance(node, ast.ClassDef):
+                own = [part.name for part in node.body if isinstance(part, ast.FunctionDef)]
+                self.assertEqual(len(own), len(set(own)), (name, node.name))
+                methods.update(own)
+            if isinstance(node, ast.Attribute) and isinstance(node.ctx, ast.Store):
+                values.add(node.attr)
+        self.assertEqual(methods & values, set())
+        for word in values | methods - {"__init__"}:
+            for kind in (str, int, list, dict, set, bytes, tuple):
+                self.assertFalse(hasattr(kind, word), word)
+
+    def test_is_annotations_texts_and_comprehensions(self):
+        for name, node in nodes():
+            place = (name, getattr(node, "lineno", 0))
+            if isinstance(node, ast.Compare) and any(isinstance(op, (ast.Is, ast.IsNot)) for op in node.ops):
+                self.assertIsInstance(node.comparators[0], ast.Constant, place)
+            if isinstance(node, ast.arg):
+                self.assertIsNone(node.annotation, place)
+            if isinstance(node, ast.FunctionDef):
+                self.assertIsNone(node.returns, place)
+            if isinstance(node, ast.Constant) and isinstance(node.value, str):
+                self.assertNotIn("%", node.value, place)
+            if isinstance(node, ast.ListComp):
+                self.assertEqual(len(node.generators), 1, place)
+                self.assertLessEqual(len(node.generators[0].ifs), 1, place)
+
+    def test_what_is_walked_is_walked_at_once(self):
+        for name, tree in trees():
+            allowed = []
+            for node in ast.walk(tree):
+                if isinstance(node, (ast.For, ast.comprehension)):
+                    allowed.append(node.iter)
+                if isinstance(node, ast.Call) and called(node) in WALKERS:
+                    allowed.extend(node.args[:1])
+            for node in ast.walk(tree):
+                if isinstance(node, ast.Call) and called(node) in WALKED:
+                    self.assertIn(node, allowed, (name, node.lineno))
 
 
 if __name__ == "__main__":

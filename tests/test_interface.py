@@ -3,7 +3,7 @@
 import unittest
 
 from severalwindows.office import answers
-from tests.asking import ask, flat
+from tests.asking import HIGHEST, NAMES, ask, flat
 
 
 class Untouchable(list):
@@ -18,7 +18,10 @@ class Untouchable(list):
 
 EVERY = [("come", 1, 1), ("start",), ("start", 4, 0), ("come", 2, 9), ("come", 2, 9), ("come", 3, 9), ("times", 2),
          ("wait", 2), ("sum",), ("longest",), ("over",), ("present", 3), ("line", 3), ("at", 0, 5), ("of", 0),
-         ("leave", 1), ("sum",), ("start", 1), ("come", 0, 0), ("sum",)]
+         ("more", 1), ("more", 301), ("without", 1), ("without", 3), ("faster", 0, 4), ("faster", 3, 4),
+         ("sooner", 2, 9), ("sooner", 3, 9), ("earlier", 0, 3), ("earlier", 2, 3), ("best", 4), ("fewest", 0),
+         ("crowd",), ("free",), ("state",), ("open", 301), ("open", 1), ("free",), ("state",),
+         ("leave", 1), ("sum",), ("start", 1), ("fewest", 0), ("come", 0, 0), ("sum",)]
 
 
 class Interface(unittest.TestCase):
@@ -27,6 +30,21 @@ class Interface(unittest.TestCase):
         calls = [5, 0, 1, 301, 0, 2, 4, 0, 1, 2, 9, 1, 2, 9, 1, 3, 9, 3, 2, 6, 9, 3, 11, 1, 8, 2001]
         given = [1, -11, 1, -22, 1, 2, 1, 0, 1, 1, 1, 2, 4, 1, 3, 11, 20, 2, 8, 2, 3, 2, 1, 2, 3, 2, 0, 2, 1, -22]
         self.assertEqual(answers(calls), given)
+
+    def test_the_other_calls_as_they_are_given_back(self):
+        calls = [22, 0, 2, 4, 0, 1, 2, 9, 1, 2, 9, 1, 3, 9, 12, 1, 13, 1, 14, 0, 4, 15, 2, 9, 16, 0, 3, 17, 4, 18, 0,
+                 19, 20, 301, 20, 1, 21, 22, 16, 3, 0, 13, 3]
+        given = [1, -11, 1, 2, 1, 0, 1, 1, 1, 2, 3, 9, 1, 13, 3, 9, 1, 13, 3, 4, 6, 16, 3, 2, 11, 20, 3, 2, 8, 20,
+                 2, 0, 2, 1, 3, 1, 3, 1, -22, 1, 2, 4, 3, 13, 11, 11, 4, 3, 4, 0, 1, 1, -2, 1, -2]
+        self.assertEqual(answers(calls), given)
+
+    def test_every_call_is_asked_here(self):
+        self.assertEqual({call[0] for call in EVERY}, set(NAMES))
+
+    def test_no_number_but_a_refusal_is_below_0(self):
+        for call, answer in zip(EVERY, ask(*EVERY)):
+            with self.subTest(call=call):
+                self.assertTrue(min(answer) >= 0 or len(answer) == 1)
 
     def test_whole_numbers_in_a_plain_list(self):
         given = answers(flat(EVERY))
@@ -61,7 +79,7 @@ class Interface(unittest.TestCase):
         self.assertEqual(ask(*[("sum",)] * 200), [[-11]] * 200)
 
     def test_200_starts_with_60_numbers(self):
-        self.assertEqual(ask(*[("start", *[4294967295] * 60)] * 200), [[-22]] * 200)
+        self.assertEqual(ask(*[("start", *[HIGHEST] * 60)] * 200), [[-22]] * 200)
 
     def test_a_row_may_look_like_calls(self):
         self.assertEqual(ask(("start", 0, 1, 0, 2), ("of", 3), ("of", 4)), [[4], [0], [-2]])

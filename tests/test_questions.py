@@ -1,10 +1,9 @@
-"""Point 2: times, wait, sum, longest, over, present, line, at and of."""
+"""Point 2: times, wait, sum, longest, over, present, line, at, of and free."""
 
 import unittest
 
-from tests.asking import after, ask, last
+from tests.asking import HIGHEST, after, ask, last
 
-HIGHEST = 4294967295
 SCENE = [("start", 0, 5), ("come", 0, 10), ("come", 0, 3), ("come", 2, 4), ("come", 7, 0), ("come", 7, 6)]
 NOBODY = [("start", 0, 5)]
 
@@ -174,12 +173,40 @@ class Of(unittest.TestCase):
         self.assertEqual(found[-1], [1, 4])
 
 
+class Free(unittest.TestCase):
+
+    def test_ordinary(self):
+        self.assertEqual(after(SCENE, ("free",)), [[2, 16, 12]])
+
+    def test_nobody(self):
+        self.assertEqual(after(NOBODY, ("free",)), [[2, 0, 5]])
+        self.assertEqual(last(("start", 300, 0, 7, 7, 1), ("free",)), [5, 300, 0, 7, 7, 1])
+
+    def test_a_window_to_which_nobody_goes(self):
+        self.assertEqual(last(("start", 300, 0), ("come", 4, 9), ("free",)), [2, 300, 13])
+
+    def test_a_window_that_opens_late(self):
+        self.assertEqual(last(("start", 300), ("come", 4, 9), ("free",)), [1, 309])
+
+    def test_of_no_minutes(self):
+        self.assertEqual(last(("start", 0, 3), ("come", 7, 0), ("free",)), [2, 7, 3])
+        self.assertEqual(last(("start", 0, 0), ("come", 0, 0), ("come", 0, 2), ("free",)), [2, 2, 0])
+
+    def test_one_who_leaves_and_a_window_more(self):
+        found = after(SCENE, ("leave", 4), ("free",), ("open", 40), ("free",), ("leave", 0), ("free",))
+        self.assertEqual(found[1::2], [[2, 10, 12], [3, 10, 12, 40], [3, 7, 7, 40]])
+
+    def test_twenty_in_one_minute(self):
+        calls = [("start", 0, 0, 0)] + [("come", 9, 60)] * 20
+        self.assertEqual(after(calls, ("free",)), [[3, 429, 429, 369]])
+
+
 class ChangeNothing(unittest.TestCase):
 
     def test_questions_leave_all_as_it_was(self):
         questions = [("times", 0), ("times", 9), ("wait", 1), ("wait", 9), ("sum",), ("longest",), ("over",),
                      ("present", 3), ("present", 2001), ("line", 3), ("line", 2001), ("at", 0, 0), ("at", 0, 99),
-                     ("at", 9, 0), ("of", 0), ("of", 9)]
+                     ("at", 9, 0), ("of", 0), ("of", 9), ("free",)]
         found = after(SCENE, *questions, *questions, *reversed(questions))
         count = len(questions)
         self.assertEqual(found[:count], found[count:2 * count])

@@ -2,9 +2,8 @@
 
 import unittest
 
-from tests.asking import NAMES, after, ask, everything, last
+from tests.asking import HIGHEST, NAMES, after, ask, everything, last
 
-HIGHEST = 4294967295
 SCENE = [("start", 0, 5), ("come", 0, 10), ("come", 0, 3), ("come", 2, 4), ("come", 7, 0), ("come", 7, 6)]
 FULL = [("start", 0)] + [("come", 10, 1)] * 20
 
